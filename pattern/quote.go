@@ -88,7 +88,7 @@ func (r *reader) quoted(most int) string {
 	var b strings.Builder
 	for !r.skips('"') {
 		if b.Len() == most {
-			r.refuse(api.ErrLong, r.at)
+			refuse(api.ErrLong, r.at)
 		}
 		b.WriteByte(r.form())
 	}
@@ -114,14 +114,14 @@ func (r *reader) form() byte {
 	case 't':
 		return '\t'
 	case 'x':
-		return r.byDigits()
+		return r.twoDigits()
 	}
 	r.refuseLast()
 	return 0
 }
 
-// byDigits: the byte for which the next two digits stand.
-func (r *reader) byDigits() byte {
+// twoDigits: the byte for which the next two digits stand.
+func (r *reader) twoDigits() byte {
 	high := r.digit() << 4
 	if !mayBegin(high) {
 		r.refuseLast()

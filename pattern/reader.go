@@ -29,12 +29,12 @@ func guard(read func()) (fault api.Spot) {
 }
 
 // refuse ends the reading at a place.
-func (r *reader) refuse(e api.Errno, at int) {
+func refuse(e api.Errno, at int) {
 	panic(wrong{spot: api.Spot{Err: e, At: at}})
 }
 
 // refuseLast ends the reading at the byte that was read last.
-func (r *reader) refuseLast() { r.refuse(api.ErrText, r.at-1) }
+func (r *reader) refuseLast() { refuse(api.ErrText, r.at-1) }
 
 // ended: whether no byte is left.
 func (r *reader) ended() bool { return r.at == len(r.text) }
@@ -54,7 +54,7 @@ func (r *reader) skips(c byte) bool {
 // next: the next byte, which there must be.
 func (r *reader) next() byte {
 	if r.ended() {
-		r.refuse(api.ErrText, r.at)
+		refuse(api.ErrText, r.at)
 	}
 	r.at++
 	return r.text[r.at-1]
@@ -63,7 +63,7 @@ func (r *reader) next() byte {
 // take reads a byte, which must be that one.
 func (r *reader) take(c byte) {
 	if !r.skips(c) {
-		r.refuse(api.ErrText, r.at)
+		refuse(api.ErrText, r.at)
 	}
 }
 
@@ -77,6 +77,6 @@ func (r *reader) word(s string) {
 // end: no byte may be left.
 func (r *reader) end() {
 	if !r.ended() {
-		r.refuse(api.ErrText, r.at)
+		refuse(api.ErrText, r.at)
 	}
 }
