@@ -2,11 +2,13 @@ package cluster_test
 
 import (
 	"reflect"
+	"slices"
 	"strings"
 	"testing"
 
 	"dragoman/api"
 	"dragoman/cluster"
+	"dragoman/lease"
 	"dragoman/message"
 )
 
@@ -25,6 +27,7 @@ type history struct {
 	committed map[int]api.Entry
 	tables    map[int]string // by how many were applied
 	leaders   map[int]int    // by their terms
+	held      int            // how often some node was seen to hold a lease
 }
 
 func newHistory() *history {
@@ -58,6 +61,7 @@ func (h *history) look(t *testing.T, w *cluster.World) {
 			h.leaders[v.Ballot.Term] = i
 		}
 	}
+	h.lease(t, w)
 	last := map[int]api.Taken{}
 	for _, x := range w.Taken() {
 		y := last[x.Talk]
@@ -65,6 +69,23 @@ func (h *history) look(t *testing.T, w *cluster.World) {
 			t.Fatalf("taken %v behind %v", x, y)
 		}
 		last[x.Talk] = x
+	}
+}
+
+// lease: P5 of the whole: while one may answer by itself, none of a later term is ready.
+func (h *history) lease(t *testing.T, w *cluster.World) {
+	t.Helper()
+	for i := range 3 {
+		v := w.Node(i).View()
+		if !lease.Held(v, i, api.Drift) {
+			continue
+		}
+		h.held++
+		for j := range 3 {
+			if x := w.Node(j).View(); x.Ready && x.Ballot.Term > v.Ballot.Term {
+				t.Fatalf("node %d may answer by itself in the term %d, and node %d is ready in the term %d", i, v.Ballot.Term, j, x.Ballot.Term)
+			}
+		}
 	}
 }
 
@@ -138,6 +159,18 @@ func (d *dice) act(w *cluster.World) api.Act {
 	return boot(d.below(4))
 }
 
+// power: it goes, comes again, with a crash or without one, and machines are started.
+func (d *dice) power() api.Act {
+	switch i := d.below(4); d.below(5) {
+	case 0, 1:
+		return api.Act{Kind: api.ActPower, Node: i, N: d.below(9)}
+	case 2:
+		return api.Act{Kind: api.ActCrash, Node: i, Keep: []int{d.below(3), d.below(3), d.below(3), d.below(3), d.below(3), d.below(3)}, N: d.below(100)}
+	default:
+		return boot(i)
+	}
+}
+
 // mend: all machines are up, nothing is cut, clocks go rightly, draws differ.
 func mend(t *testing.T, w *cluster.World) {
 	t.Helper()
@@ -178,18 +211,31 @@ func leads(w *cluster.World) int {
 	return leader
 }
 
-// P27.5, P27.6, P27.7: whatever acts; and behind them all comes to the same, soon.
+// P27.5, P27.6, P27.7, and P5 of the whole: whatever acts; and behind them all comes to the same, soon.
 func TestHistory(t *testing.T) {
-	sends, terms, calls, snaps := 0, 0, 0, 0
+	sends, terms, calls, snaps, held := 0, 0, 0, 0, 0
 	for seed := range 120 {
 		d := dice(seed + 1)
 		w, h := cluster.New(), newHistory()
 		var script []api.Act
+		var took []api.Taken
 		for range 700 {
 			a := d.act(w)
+			if seed%2 == 0 && d.below(12) == 0 {
+				a = d.power()
+			}
 			script = append(script, a)
-			w.Do(a)
+			if e := w.Do(a); a.Kind == api.ActBoot && e != api.OK && e != api.ErrState && e != api.ErrOff {
+				t.Fatalf("seed %d: Do(%+v): %d", seed, a, e)
+			}
 			h.look(t, w)
+			if w.Up(api.GatewayAddress) {
+				l := w.Taken()
+				if len(l) < len(took) || !slices.Equal(l[:len(took)], took) {
+					t.Fatalf("seed %d: taken %v, and then %v", seed, took, l)
+				}
+				took = l
+			}
 		}
 		twin := cluster.New()
 		for _, a := range script {
@@ -207,6 +253,7 @@ func TestHistory(t *testing.T) {
 		meant(t, w, i)
 		sends += len(w.Taken())
 		terms += len(h.leaders)
+		held += h.held
 		for _, x := range w.Calls() {
 			if x.Ended > 0 {
 				calls++
@@ -216,8 +263,8 @@ func TestHistory(t *testing.T) {
 			snaps++
 		}
 	}
-	if sends < 300 || terms < 150 || calls < 300 || snaps < 10 {
-		t.Errorf("too little happens: %d sends, %d terms, %d calls, %d snapshots", sends, terms, calls, snaps)
+	if sends < 300 || terms < 150 || calls < 300 || snaps < 10 || held < 3000 {
+		t.Errorf("too little happens: %d sends, %d terms, %d calls, %d snapshots, %d leases", sends, terms, calls, snaps, held)
 	}
 }
 

@@ -389,6 +389,30 @@ func TestOff(t *testing.T) {
 	}
 }
 
+// P1 of the whole: the power goes between a send and its sync, and comes again without a crash: what the gateway has then it does not lose.
+func TestAgain(t *testing.T) {
+	d := disk.New()
+	g := open(t, d)
+	done(t, d.Power(1))
+	refuses(t, "a send", g, send(1, fence(1, 1), 1, "a"), nil, api.ErrOff)
+	done(t, d.Power(0))
+	if g, e := gateway.Open(d); g != nil || e != api.ErrOff {
+		t.Errorf("Open of a disk that is off: %v, %d", g, e)
+	}
+	done(t, d.Power(1))
+	g = open(t, d)
+	taken := api.Taken{Talk: 1, Token: fence(1, 1), Seq: 1, Text: "a"}
+	has(t, g, taken)
+	does(t, "the same again, by a disk that is off", g, send(1, fence(1, 1), 1, "a"), nil, answer(send(1, fence(1, 1), 1, "a"), 1))
+	done(t, d.Crash(nil, 0))
+	has(t, open(t, d), taken)
+	was := d.Ops()
+	open(t, d)
+	if d.Ops() != was {
+		t.Error("a step where nothing is loose")
+	}
+}
+
 // P23.3, R2: an error of the disk's ahead of all, and what is no question ahead of its right.
 func TestOrder(t *testing.T) {
 	g := open(t, disk.New())

@@ -11,6 +11,8 @@ import (
 	"dragoman/node"
 	"dragoman/ring"
 	"dragoman/table"
+	"dragoman/vote"
+	"dragoman/wal"
 )
 
 // dice are numbers that look thrown, and are the same in each run.
@@ -336,5 +338,77 @@ func replays(t *testing.T, w *world, x *member) {
 	}
 	if y.Len() > 0 && sent == 0 {
 		t.Error("nothing was sent")
+	}
+}
+
+// again: the power comes again without a crash, and then there is a crash that keeps nothing: what it stood on by then is there.
+func again(t *testing.T, self int, d *disk.Disk) {
+	t.Helper()
+	want(t, "Power", d.Power(-1), api.OK)
+	was := open(t, self, d).View()
+	want(t, "Crash", d.Crash(nil, 0), api.OK)
+	if v := open(t, self, d).View(); v != was {
+		t.Fatalf("behind a crash %+v, and ahead of it %+v", v, was)
+	}
+}
+
+// P26.7: at whatever step the power goes, and comes again.
+func TestAgain(t *testing.T) {
+	entries := []api.Entry{{Term: 2, Data: "a"}, {Term: 2, Data: "b"}}
+	for n := range 9 {
+		d := disk.New()
+		leader(t, d)
+		x := open(t, 2, d)
+		want(t, "Power", d.Power(n), api.OK)
+		x.Receive(bytesOf(t, api.Message{Kind: api.MsgAppend, From: 1, To: 2, Term: 2, Entries: entries}))
+		again(t, 2, d)
+	}
+	for n := range 13 {
+		d := disk.New()
+		x := open(t, 2, d)
+		feed(t, x, command, 31)
+		want(t, "Power", d.Power(n), api.OK)
+		x.Receive(bytesOf(t, api.Message{Kind: api.MsgAppend, From: 1, To: 2, Term: 1, Index: 31, LogTerm: 1, Commit: 32, Entries: []api.Entry{{Term: 1}}}))
+		again(t, 2, d)
+	}
+	for n := range 9 {
+		d := stored{api.Ballot{Term: 3, For: -1}, api.Mark{}, "", 1, records(20, 2)}.disk(t)
+		x := open(t, 2, d)
+		want(t, "Power", d.Power(n), api.OK)
+		x.Receive(bytesOf(t, piece(tableOf(t), api.Mark{Index: 16, Term: 1}, 0)))
+		again(t, 2, d)
+	}
+}
+
+// P26.2, P26.7: what was loose when it was opened is sure then; with an error of the disk it is not opened.
+func TestLoose(t *testing.T) {
+	for n := range 5 {
+		d := disk.New()
+		log, e := wal.Open(d)
+		want(t, "wal.Open", e, api.OK)
+		want(t, "Append", log.Append(node.Record(api.Entry{Term: 1})), api.OK)
+		box, e := vote.Open(d)
+		want(t, "vote.Open", e, api.OK)
+		want(t, "Power", d.Power(1), api.OK)
+		want(t, "Write", box.Write(api.Ballot{Term: 1, For: 2}), api.ErrOff)
+		want(t, "Power", d.Power(n), api.OK)
+		x, e := node.Open(0, d, 100)
+		if n < 2 { // a sync of each of both files
+			if x != nil || e != api.ErrOff {
+				t.Errorf("power %d: %v, %d", n, x, e)
+			}
+			continue
+		}
+		want(t, "Open", e, api.OK)
+		if v := x.View(); v.Ballot != (api.Ballot{Term: 1, For: 2}) || v.Last != 1 || d.Loose(api.BallotA) != 0 || d.Loose(api.FirstSegment) != 0 {
+			t.Errorf("power %d: %+v", n, v)
+		}
+		was := d.Ops()
+		if n > 2 {
+			open(t, 0, d)
+		}
+		if d.Ops() != was {
+			t.Error("a step where nothing is loose")
+		}
 	}
 }

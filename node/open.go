@@ -27,7 +27,13 @@ func Open(self int, d *disk.Disk, rho int) (*Node, api.Errno) {
 	if n.box, e = vote.Open(d); e != api.OK {
 		return nil, e
 	}
-	if e := n.openLog(mark); e != api.OK {
+	if n.log, e = wal.Open(d); e != api.OK {
+		return nil, e
+	}
+	if e := n.settle(); e != api.OK {
+		return nil, e
+	}
+	if e := n.trim(mark); e != api.OK {
 		return nil, e
 	}
 	entries, ok := entriesBehind(n.log, mark.Index)
@@ -57,11 +63,21 @@ func (n *Node) openTable() (mark api.Mark, e api.Errno) {
 	return mark, api.OK
 }
 
-// openLog: its log is that of its disk, without what stands in the snapshot, or is not what stands behind it.
-func (n *Node) openLog(mark api.Mark) (e api.Errno) {
-	if n.log, e = wal.Open(n.disk); e != api.OK {
-		return e
+// settle: what its disk was told, and may lose yet, is sure: the power may have come again without a crash, and from now on the node stands on what it sees.
+func (n *Node) settle() api.Errno {
+	for f := range api.MaxFiles {
+		if n.disk.Loose(f) == 0 {
+			continue
+		}
+		if e := n.disk.Sync(f); e != api.OK {
+			return e
+		}
 	}
+	return api.OK
+}
+
+// trim: its log is without what stands in the snapshot, or does not stand behind it.
+func (n *Node) trim(mark api.Mark) api.Errno {
 	if n.astray(mark) {
 		// The power went while a snapshot came in place of the log.
 		if e := n.log.Reset(mark.Index + 1); e != api.OK {
