@@ -210,6 +210,8 @@ func TestHeard(t *testing.T) {
 // P28.5: what is answered to a submit and a cancel.
 func TestAnswers(t *testing.T) {
 	l := log(t, submit(1, 5, dialogue), submit(1, 5, dialogue), cancel(1, 6, 1), submit(1, 5, dialogue), cancel(2, 1, 7), submit(2, 2, "?"), cancel(1, 3, 1))
+	// Neither an entry without a command nor one that no client asked is a place, whatever numbers it has.
+	l = append(log(t, api.Command{Op: api.OpTimeout, Client: 1, Request: 5, Talk: 1}), l...)
 	l = append([]api.Entry{{Term: 1}}, l...)
 	for name, c := range map[string]struct {
 		right bool

@@ -276,6 +276,7 @@ func TestSpreadEmpty(t *testing.T) {
 	spreads(t, nil, nil)
 	spreads(t, [][]api.Happen{many(3), nil}, nil)
 	spreads(t, [][]api.Happen{nil, many(3)}, []api.Watcher{{}, {}, {Talk: 1, From: 3}})
+	spreads(t, [][]api.Happen{many(3)}, []api.Watcher{{From: 1}})
 }
 
 // P29.4: all dialogues, as many watchers as may be, from everywhere on, again and again.

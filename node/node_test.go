@@ -318,6 +318,8 @@ func TestOpen(t *testing.T) {
 		"a gap":                        {stored{two, at(8, 1), text, 17, records(2, 1)}, api.ErrDisk, 0, 0},
 		"no segment's mark":            {stored{two, at(9, 1), text, 1, nil}, api.ErrArg, 0, 0},
 		"no segment's mark, a log":     {stored{two, at(5, 1), text, 1, records(7, 1)}, api.OK, 1, 7},
+		"a gap of one":                 {stored{two, at(7, 1), text, 9, records(2, 1)}, api.ErrDisk, 0, 0},
+		"a log that ends with it, too": {stored{two, at(5, 1), text, 1, records(5, 1)}, api.OK, 1, 5},
 		"no table":                     {stored{two, at(8, 1), "text", 1, nil}, api.ErrDisk, 0, 0},
 		"a record that is none":        {stored{two, at(0, 0), "", 1, append(records(3, 1), "1234567")}, api.ErrDisk, 0, 0},
 		"one ahead of the mark":        {stored{two, at(5, 1), text, 1, append([]string{"x"}, records(6, 1)...)}, api.ErrDisk, 0, 0},

@@ -385,6 +385,36 @@ func TestDriver(t *testing.T) {
 	}
 }
 
+// P26.4: one that hears nobody any more has no driver from that tick on.
+func TestDriverGone(t *testing.T) {
+	n := ready(t, disk.New())
+	for range 3 {
+		tick(t, n)
+	}
+	receive(t, n, call(1, api.OpSubmit, 0, 0, dialogue))
+	// What came back is of the tick 20: so it goes on up to the tick 40.
+	receive(t, n, api.Message{Kind: api.MsgAppended, From: 1, Term: 1, Good: true, Index: 2, Stamp: 20})
+	asked := 0
+	for range 16 {
+		for _, m := range tick(t, n) {
+			if m.To == api.GatewayAddress {
+				asked++
+			}
+		}
+	}
+	if asked != 4 || n.View().Role != api.Leader {
+		t.Fatalf("asked %d times, %+v", asked, n.View())
+	}
+	// At this one its driver would ask once more.
+	says(t, "the tick 40", tick(t, n))
+	if n.View().Role != api.Follower {
+		t.Errorf("%+v", n.View())
+	}
+	for range 10 {
+		says(t, "a follower's tick", tick(t, n))
+	}
+}
+
 // What a driver proposes goes into the log as far as it has a form, and the core takes it.
 func TestPropose(t *testing.T) {
 	n := ready(t, disk.New())
